@@ -1,0 +1,1 @@
+"""A map that segments make."""

@@ -1,0 +1,240 @@
+"""The map that segments make: the calls, and the vertices, edges, cycles and pieces behind them."""
+
+MOST_SEGMENTS = 10
+FARTHEST = 100
+
+BAD_SEGMENT = -1
+TOO_MANY_SEGMENTS = -2
+NO_SUCH_ONE = -3
+
+
+def map_of(segments):
+    """Answer how many vertices, edges, faces and pieces the segments make."""
+    refused = refusal_of_segments(segments)
+    if refused < 0:
+        return [refused]
+    land = Land(segments)
+    bounded = [walk for walk in all_cycles(land.rings) if doubled_area(walk, land.points) > 0]
+    # The face without end is there even if no cycle goes round anything.
+    faces = 1 + len(bounded)
+    return [len(land.points), len(land.edges), faces, count_pieces(len(land.points), land.edges)]
+
+
+def vertex(i, segments):
+    """Answer vertex i: how many neighbours, its place, its neighbours round it."""
+    refused = refusal_of_segments(segments)
+    if refused < 0:
+        return [refused]
+    land = Land(segments)
+    if i < 0 or i >= len(land.points):
+        return [NO_SUCH_ONE]
+    place = land.points[i]
+    ring = land.rings[i]
+    return [len(ring)] + lowest_terms(place[0], land.scale) + lowest_terms(place[1], land.scale) + ring
+
+
+def refusal_of_segments(segments):
+    """The number that refuses the segments, or 0."""
+    if len(segments) > MOST_SEGMENTS:
+        return TOO_MANY_SEGMENTS
+    for segment in segments:
+        if not is_right_segment(segment):
+            return BAD_SEGMENT
+    return 0
+
+
+def is_right_segment(segment):
+    if len(segment) != 4:
+        return False
+    if min(segment) < -FARTHEST or max(segment) > FARTHEST:
+        return False
+    return segment[:2] != segment[2:]
+
+
+class Land:
+
+    def __init__(self, segments):
+        """What the segments make.
+
+        scale: by how much all places are multiplied, so that each of them is whole;
+        points: the vertices' places (across, up), so multiplied, by the vertices' numbers;
+        edges: pairs of vertices, by the edges' numbers;
+        rings: for each vertex its neighbours, from the way straight to the right on, turning left.
+        """
+        self.scale = common_scale(segments)
+        lines = [scaled_line(segment, self.scale) for segment in segments]
+        self.points = all_points(lines)
+        self.edges = all_edges(lines, self.points)
+        self.rings = all_rings(self.points, self.edges)
+
+
+def common_scale(segments):
+    """A number by which all meeting points can be multiplied so that they are whole."""
+    scale = 1
+    for k in range(len(segments)):
+        for other in segments[:k]:
+            # What is below in a meeting point's fractions divides this number.
+            slant = abs(slant_between(segments[k], other))
+            if slant > 0:
+                scale = scale * (slant // greatest_common(scale, slant))
+    return scale
+
+
+def slant_between(one, other):
+    """0 just if the segments are parallel or on one line."""
+    return (one[2] - one[0]) * (other[3] - other[1]) - (one[3] - one[1]) * (other[2] - other[0])
+
+
+def greatest_common(a, b):
+    """The greatest number that divides both, neither of them below 0."""
+    while b > 0:
+        rest = a % b
+        a = b
+        b = rest
+    return a
+
+
+def lowest_terms(above, below):
+    common = greatest_common(abs(above), below)
+    return [above // common, below // common]
+
+
+def scaled_line(segment, scale):
+    """The segment's two ends, multiplied, the one that is numbered lower first."""
+    first = (segment[0] * scale, segment[1] * scale)
+    second = (segment[2] * scale, segment[3] * scale)
+    return (min(first, second), max(first, second))
+
+
+def turn(a, b, c):
+    """Above 0 if c is at the left, going from a to b; below 0 at the right; 0 on their line."""
+    return (b[0] - a[0]) * (c[1] - a[1]) - (b[1] - a[1]) * (c[0] - a[0])
+
+
+def all_points(lines):
+    """The places of all vertices, in order."""
+    places = []
+    for k in range(len(lines)):
+        places.extend(lines[k])
+        for other in lines[:k]:
+            places.extend(meeting(lines[k], other))
+    return sorted(set(places))
+
+
+def meeting(line, other):
+    """A list of the point where the two meet; empty if they don't, or if they are on one line."""
+    first_off = turn(other[0], other[1], line[0])
+    second_off = turn(other[0], other[1], line[1])
+    change = first_off - second_off
+    if change == 0 or not reaches_across(first_off, second_off):
+        return []
+    if not reaches_across(turn(line[0], line[1], other[0]), turn(line[0], line[1], other[1])):
+        return []
+    first = line[0]
+    second = line[1]
+    # The scale is a multiple of what is below, so nothing is left over.
+    across = first[0] + (second[0] - first[0]) * first_off // change
+    up = first[1] + (second[1] - first[1]) * first_off // change
+    return [(across, up)]
+
+
+def reaches_across(first_off, second_off):
+    """Whether two ends are not both at the same side of a line."""
+    return first_off * second_off <= 0
+
+
+def all_edges(lines, points):
+    """The edges as pairs of vertices, in order."""
+    pairs = []
+    for line in lines:
+        stops = [k for k in range(len(points)) if lies_on(points[k], line)]
+        pairs.extend([(stops[k - 1], stops[k]) for k in range(1, len(stops))])
+    return sorted(set(pairs))
+
+
+def lies_on(point, line):
+    # Along a line points come in the order of the vertices, so the ends bound what is between.
+    return turn(line[0], line[1], point) == 0 and line[0] <= point and point <= line[1]
+
+
+def all_rings(points, edges):
+    """For each vertex its neighbours, from the way straight to the right on, turning left."""
+    neighbours = [[] for point in points]
+    for pair in edges:
+        neighbours[pair[0]].append(pair[1])
+        neighbours[pair[1]].append(pair[0])
+    return [ring_round(k, neighbours[k], points) for k in range(len(points))]
+
+
+def ring_round(centre, neighbours, points):
+    return sorted(neighbours, key=lambda one: count_ahead(centre, one, neighbours, points))
+
+
+def count_ahead(centre, one, neighbours, points):
+    """How many of the neighbours are met ahead of this one."""
+    return len([k for k in neighbours if is_ahead(points[centre], points[k], points[one])])
+
+
+def is_ahead(centre, a, b):
+    """Whether a is met ahead of b, turning left from the way straight to the right."""
+    if in_first_half(centre, a) != in_first_half(centre, b):
+        return in_first_half(centre, a)
+    # Within half a turn, the one is ahead that has the other at its left.
+    return turn(centre, a, b) > 0
+
+
+def in_first_half(centre, point):
+    """Whether the way there is straight to the right, or above up to, not with, straight to the left."""
+    if point[1] == centre[1]:
+        return point[0] > centre[0]
+    return point[1] > centre[1]
+
+
+def all_cycles(rings):
+    """All cycles in order, each as the vertices from which its darts go."""
+    done = {}
+    cycles = []
+    for start in range(len(rings)):
+        for end in sorted(rings[start]):
+            if (start, end) not in done:
+                darts = cycle_of_dart((start, end), rings)
+                for dart in darts:
+                    done[dart] = True
+                cycles.append([dart[0] for dart in darts])
+    return cycles
+
+
+def cycle_of_dart(first, rings):
+    """The darts of the cycle in which the first one is, beginning with it."""
+    darts = [first]
+    dart = dart_behind(first, rings)
+    while dart != first:
+        darts.append(dart)
+        dart = dart_behind(dart, rings)
+    return darts
+
+
+def dart_behind(dart, rings):
+    ring = rings[dart[1]]
+    # Rings turn left, so to the right of the way back is the one ahead of it; ahead of the first is the last.
+    return (dart[1], ring[ring.index(dart[0]) - 1])
+
+
+def doubled_area(walk, points):
+    """Twice the area that the walk has at its left, multiplied by the scale twice."""
+    total = 0
+    for k in range(len(walk)):
+        a = points[walk[k - 1]]
+        b = points[walk[k]]
+        total += a[0] * b[1] - a[1] * b[0]
+    return total
+
+
+def count_pieces(vertices, edges):
+    """How many pieces so many vertices make by these edges."""
+    labels = list(range(vertices))
+    for pair in edges:
+        kept = labels[pair[0]]
+        lost = labels[pair[1]]
+        labels = [kept if label == lost else label for label in labels]
+    return len(set(labels))

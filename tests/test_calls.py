@@ -1,0 +1,136 @@
+"""How the calls behave: nothing handed in is changed, nothing is kept, printed, read or imported."""
+import contextlib
+import copy
+import inspect
+import io
+import os
+import subprocess
+import sys
+import unittest
+
+from landmap.faces import map_of, vertex
+
+TOP = os.path.dirname(os.path.dirname(os.path.abspath(__file__)))
+
+MAPS = [
+    [],
+    [[0, 0, 3, 4]],
+    [[4, 4, 0, 0], [3, 0, 0, 3], [1, 4, 1, 0]],
+    [[9, 0, 0, 0], [3, 0, 12, 0], [12, 0, 3, 0], [5, -1, 5, 1]],
+    [[0, 0, 10, 0], [10, 0, 0, 10], [0, 10, 0, 0], [1, 1, 2, 2], [1, 2, 2, 1]],
+    [[-100, -90 + k * k, 100, 90 - 19 * k] for k in range(10)],
+    [[0, 0, 3]],
+    [[0, 0, 0, 0]],
+    [[101, 0, 0, 0]],
+    [[0, 0, 3, 4]] * 11,
+]
+NUMBERS = (-1, 0, 1, 4, 70)
+
+
+class Untouchable(list):
+    """A list that any change breaks, be it undone afterwards or not."""
+
+    def refuse(self, *args, **kwargs):
+        raise RuntimeError("what was handed in is changed")
+
+    append = clear = extend = insert = pop = remove = reverse = sort = refuse
+    __setitem__ = __delitem__ = __iadd__ = __imul__ = refuse
+
+
+def untouchable(segments):
+    return Untouchable([Untouchable(segment) for segment in segments])
+
+
+def all_answers(segments):
+    return [map_of(segments)] + [vertex(i, segments) for i in NUMBERS]
+
+
+class HandedIn(unittest.TestCase):
+    def test_is_as_it_was(self):
+        for segments in MAPS:
+            before = copy.deepcopy(segments)
+            all_answers(segments)
+            self.assertEqual(segments, before)
+
+    def test_is_not_changed_for_a_while_either(self):
+        for segments in MAPS:
+            self.assertEqual(all_answers(untouchable(segments)), all_answers(segments))
+
+
+class Kept(unittest.TestCase):
+    def test_second_call_answers_as_the_first(self):
+        for segments in MAPS:
+            self.assertEqual(all_answers(segments), all_answers(segments))
+
+    def test_calls_between_do_not_matter(self):
+        first = [all_answers(segments) for segments in MAPS]
+        again = [all_answers(segments) for segments in reversed(MAPS)]
+        self.assertEqual(again, list(reversed(first)))
+
+    def test_segments_changed_between_calls(self):
+        segments = [[0, 0, 10, 10], [0, 10, 10, 0]]
+        self.assertEqual(map_of(segments), [5, 4, 1, 1])
+        segments[1][3] = 10
+        self.assertEqual(map_of(segments), [3, 2, 1, 1])
+        segments.append([0, 0, 0, 10])
+        self.assertEqual(map_of(segments), [3, 3, 2, 1])
+
+    def test_changing_an_answer_changes_no_later_one(self):
+        for segments in MAPS:
+            before = copy.deepcopy(all_answers(segments))
+            for answer in all_answers(segments):
+                answer.append(99)
+                answer[0] = 99
+            self.assertEqual(all_answers(segments), before)
+
+
+class Answers(unittest.TestCase):
+    def test_are_lists_of_whole_numbers(self):
+        for segments in MAPS:
+            for answer in all_answers(segments):
+                self.assertIs(type(answer), list)
+                for number in answer:
+                    self.assertIs(type(number), int)
+
+    def test_have_just_the_counts_told(self):
+        for segments in MAPS:
+            counted = map_of(segments)
+            if counted[0] < 0:
+                self.assertEqual(len(counted), 1)
+                continue
+            self.assertEqual(len(counted), 4)
+            for i in range(counted[0]):
+                told = vertex(i, segments)
+                self.assertEqual(len(told), 5 + told[0])
+
+    def test_names_of_arguments(self):
+        self.assertEqual(list(inspect.signature(map_of).parameters), ["segments"])
+        self.assertEqual(list(inspect.signature(vertex).parameters), ["i", "segments"])
+        self.assertEqual(map_of(segments=[[0, 0, 3, 4]]), [2, 1, 1, 1])
+        self.assertEqual(vertex(i=1, segments=[[0, 0, 3, 4]]), [1, 3, 1, 4, 1, 0])
+
+
+class World(unittest.TestCase):
+    def test_nothing_is_printed(self):
+        out = io.StringIO()
+        err = io.StringIO()
+        with contextlib.redirect_stdout(out), contextlib.redirect_stderr(err):
+            for segments in MAPS:
+                all_answers(segments)
+        self.assertEqual(out.getvalue() + err.getvalue(), "")
+
+    def test_nothing_but_the_package_is_imported(self):
+        script = (
+            "import sys\n"
+            "before = set(sys.modules)\n"
+            "import landmap.faces\n"
+            "landmap.faces.map_of([[0, 0, 2, 1], [0, 1, 1, 0]])\n"
+            "landmap.faces.vertex(2, [[0, 0, 2, 1], [0, 1, 1, 0]])\n"
+            "print(sorted(set(sys.modules) - before))\n"
+        )
+        ran = subprocess.run([sys.executable, "-c", script], cwd=TOP, capture_output=True, text=True)
+        self.assertEqual(ran.stdout.strip(), "['landmap', 'landmap.faces']", ran.stderr)
+
+
+if __name__ == "__main__":
+    unittest.main()
