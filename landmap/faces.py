@@ -1,4 +1,4 @@
-"""The map that segments make: the calls, and the vertices, edges, cycles and pieces behind them."""
+"""The map that segments make: the calls, and the vertices, edges, cycles, faces and pieces behind them."""
 
 MOST_SEGMENTS = 10
 FARTHEST = 100
@@ -14,10 +14,8 @@ def map_of(segments):
     if refused < 0:
         return [refused]
     land = Land(segments)
-    bounded = [walk for walk in all_cycles(land.rings) if doubled_area(walk, land.points) > 0]
-    # The face without end is there even if no cycle goes round anything.
-    faces = 1 + len(bounded)
-    return [len(land.points), len(land.edges), faces, count_pieces(len(land.points), land.edges)]
+    pieces = count_pieces(len(land.points), land.edges)
+    return [len(land.points), len(land.edges), count_faces(land.areas), pieces]
 
 
 def vertex(i, segments):
@@ -31,6 +29,32 @@ def vertex(i, segments):
     place = land.points[i]
     ring = land.rings[i]
     return [len(ring)] + lowest_terms(place[0], land.scale) + lowest_terms(place[1], land.scale) + ring
+
+
+def edge(i, segments):
+    """Answer edge i: its two vertices, then the faces at its left and at its right."""
+    refused = refusal_of_segments(segments)
+    if refused < 0:
+        return [refused]
+    land = Land(segments)
+    if i < 0 or i >= len(land.edges):
+        return [NO_SUCH_ONE]
+    low = land.edges[i][0]
+    high = land.edges[i][1]
+    # What is at an edge's right is at the left of the way back.
+    return [low, high, face_at_left((low, high), land), face_at_left((high, low), land)]
+
+
+def face(i, segments):
+    """Answer face i: how many cycles, then its area."""
+    refused = refusal_of_segments(segments)
+    if refused < 0:
+        return [refused]
+    land = Land(segments)
+    if i < 0 or i >= count_faces(land.areas):
+        return [NO_SUCH_ONE]
+    areas = [land.areas[k] for k in range(len(land.cycles)) if land.homes[k] == i]
+    return [len(areas)] + lowest_terms(sum(areas), 2 * land.scale ** 2)
 
 
 def refusal_of_segments(segments):
@@ -59,13 +83,19 @@ class Land:
         scale: by how much all places are multiplied, so that each of them is whole;
         points: the vertices' places (across, up), so multiplied, by the vertices' numbers;
         edges: pairs of vertices, by the edges' numbers;
-        rings: for each vertex its neighbours, from the way straight to the right on, turning left.
+        rings: for each vertex its neighbours, from the way straight to the right on, turning left;
+        cycles: the cycles in order, each as the vertices from which its darts go;
+        areas: for each cycle twice the area that it goes round, multiplied by the scale twice;
+        homes: for each cycle the face whose own it is, or within which it is.
         """
         self.scale = common_scale(segments)
         lines = [scaled_line(segment, self.scale) for segment in segments]
         self.points = all_points(lines)
         self.edges = all_edges(lines, self.points)
         self.rings = all_rings(self.points, self.edges)
+        self.cycles = all_cycles(self.rings)
+        self.areas = [doubled_area(walk, self.points) for walk in self.cycles]
+        self.homes = all_homes(self.cycles, self.areas, self.points)
 
 
 def common_scale(segments):
@@ -228,6 +258,67 @@ def doubled_area(walk, points):
         b = points[walk[k]]
         total += a[0] * b[1] - a[1] * b[0]
     return total
+
+
+def count_faces(areas):
+    # The face without end is there even if no cycle goes round anything.
+    return 1 + len(bounding_cycles(areas))
+
+
+def bounding_cycles(areas):
+    """Which cycles go round something; the first of them is of face 1."""
+    return [k for k in range(len(areas)) if areas[k] > 0]
+
+
+def all_homes(cycles, areas, points):
+    """For each cycle the face whose own it is, or within which it is."""
+    homes = []
+    for k in range(len(cycles)):
+        if areas[k] > 0:
+            homes.append(face_of_cycle(k, areas))
+        else:
+            homes.append(face_round(points[cycles[k][0]], cycles, areas, points))
+    return homes
+
+
+def face_of_cycle(k, areas):
+    return 1 + bounding_cycles(areas).index(k)
+
+
+def face_round(place, cycles, areas, points):
+    """The face of that cycle which goes round the least area, of those that go round the place."""
+    around = [k for k in bounding_cycles(areas) if goes_round(cycles[k], place, points)]
+    if around == []:
+        return 0
+    return face_of_cycle(min(around, key=lambda k: areas[k]), areas)
+
+
+def goes_round(walk, place, points):
+    """Whether the place, a vertex's or one on no edge, is at the walk's left and not on it."""
+    corners = [points[k] for k in walk]
+    if place in corners:
+        return False
+    return sum([passes(corners[k - 1], corners[k], place) for k in range(len(corners))]) > 0
+
+
+def passes(a, b, place):
+    """1 if going from a to b one passes straight to the right of the place upward, -1 downward, else 0."""
+    # A dart's lower end counts and its upper one doesn't, so that a corner as high as the place isn't counted twice.
+    if a[1] <= place[1] and place[1] < b[1]:
+        return 1 if turn(a, b, place) > 0 else 0
+    if b[1] <= place[1] and place[1] < a[1]:
+        return -1 if turn(a, b, place) < 0 else 0
+    return 0
+
+
+def face_at_left(dart, land):
+    """The face whose own cycle, or a cycle within it, has the dart."""
+    holders = [k for k in range(len(land.cycles)) if has_dart(land.cycles[k], dart)]
+    return land.homes[holders[0]]
+
+
+def has_dart(walk, dart):
+    return dart in [(walk[k - 1], walk[k]) for k in range(len(walk))]
 
 
 def count_pieces(vertices, edges):

@@ -8,7 +8,7 @@ import subprocess
 import sys
 import unittest
 
-from landmap.faces import map_of, vertex
+from landmap.faces import edge, face, map_of, vertex
 
 TOP = os.path.dirname(os.path.dirname(os.path.abspath(__file__)))
 
@@ -42,7 +42,7 @@ def untouchable(segments):
 
 
 def all_answers(segments):
-    return [map_of(segments)] + [vertex(i, segments) for i in NUMBERS]
+    return [map_of(segments)] + [call(i, segments) for call in (vertex, edge, face) for i in NUMBERS]
 
 
 class HandedIn(unittest.TestCase):
@@ -75,6 +75,14 @@ class Kept(unittest.TestCase):
         segments.append([0, 0, 0, 10])
         self.assertEqual(map_of(segments), [3, 3, 2, 1])
 
+    def test_segments_changed_between_calls_by_number(self):
+        segments = [[0, 0, 10, 0], [10, 0, 0, 10], [0, 10, 0, 1]]
+        self.assertEqual([edge(0, segments), face(0, segments)], [[0, 3, 0, 0], [1, 0, 1]])
+        self.assertEqual(face(1, segments), [-3])
+        segments[2][3] = 0
+        self.assertEqual([edge(0, segments), face(0, segments)], [[0, 1, 0, 1], [1, -50, 1]])
+        self.assertEqual(face(1, segments), [1, 50, 1])
+
     def test_changing_an_answer_changes_no_later_one(self):
         for segments in MAPS:
             before = copy.deepcopy(all_answers(segments))
@@ -102,12 +110,19 @@ class Answers(unittest.TestCase):
             for i in range(counted[0]):
                 told = vertex(i, segments)
                 self.assertEqual(len(told), 5 + told[0])
+            for i in range(counted[1]):
+                self.assertEqual(len(edge(i, segments)), 4)
+            for i in range(counted[2]):
+                self.assertEqual(len(face(i, segments)), 3)
 
     def test_names_of_arguments(self):
         self.assertEqual(list(inspect.signature(map_of).parameters), ["segments"])
-        self.assertEqual(list(inspect.signature(vertex).parameters), ["i", "segments"])
+        for call in (vertex, edge, face):
+            self.assertEqual(list(inspect.signature(call).parameters), ["i", "segments"])
         self.assertEqual(map_of(segments=[[0, 0, 3, 4]]), [2, 1, 1, 1])
         self.assertEqual(vertex(i=1, segments=[[0, 0, 3, 4]]), [1, 3, 1, 4, 1, 0])
+        self.assertEqual(edge(i=0, segments=[[0, 0, 3, 4]]), [0, 1, 0, 0])
+        self.assertEqual(face(i=0, segments=[[0, 0, 3, 4]]), [1, 0, 1])
 
 
 class World(unittest.TestCase):
@@ -126,6 +141,8 @@ class World(unittest.TestCase):
             "import landmap.faces\n"
             "landmap.faces.map_of([[0, 0, 2, 1], [0, 1, 1, 0]])\n"
             "landmap.faces.vertex(2, [[0, 0, 2, 1], [0, 1, 1, 0]])\n"
+            "landmap.faces.edge(2, [[0, 0, 2, 1], [0, 1, 1, 0]])\n"
+            "landmap.faces.face(0, [[0, 0, 2, 1], [0, 1, 1, 0]])\n"
             "print(sorted(set(sys.modules) - before))\n"
         )
         ran = subprocess.run([sys.executable, "-c", script], cwd=TOP, capture_output=True, text=True)

@@ -2,15 +2,7 @@
 import unittest
 
 from landmap.faces import map_of
-
-
-def ring(*corners):
-    """The segments from corner to corner, and back to the first."""
-    return [list(corners[k - 1]) + list(corners[k]) for k in range(len(corners))]
-
-
-def box(left, low, right, high):
-    return ring((left, low), (right, low), (right, high), (left, high))
+from shapes import box, ring
 
 
 class MapCase(unittest.TestCase):

@@ -1,0 +1,111 @@
+"""The same edges and faces reckoned in another way: by upright slabs that are cut into rooms and joined again.
+
+Between two vertices' places across, one behind the other, no edge begins or ends: the edges there lie over one
+another and part the slab into rooms. Rooms of neighbouring slabs are one face where no edge stands between them.
+"""
+from fractions import Fraction
+
+from reckoning import edges_of, neighbours_of, vertices_of
+
+
+class Rooms:
+    """Rooms by slab and by height, from the lowest on, and which of them are joined."""
+
+    def __init__(self, segments):
+        self.vertices = vertices_of(segments)
+        self.edges = edges_of(segments, self.vertices)
+        self.walls = sorted({across for across, _ in self.vertices})
+        # The first and the last slab have no edges and no end.
+        self.floors = [[]] + [self.floors_between(*pair) for pair in zip(self.walls, self.walls[1:])] + [[]]
+        self.joined = {(s, h): (s, h) for s, floors in enumerate(self.floors) for h in range(len(floors) + 1)}
+        for number, across in enumerate(self.walls):
+            self.join_through(number, across)
+
+    def floors_between(self, left, right):
+        spanning = [pair for pair in self.edges if self.across(pair[0]) <= left and self.across(pair[1]) >= right]
+        return sorted(spanning, key=lambda pair: self.height(pair, (left + right) / 2))
+
+    def across(self, number):
+        return self.vertices[number][0]
+
+    def height(self, pair, across):
+        (ax, ay), (bx, by) = self.vertices[pair[0]], self.vertices[pair[1]]
+        return ay + (across - ax) * (by - ay) / (bx - ax)
+
+    def join_through(self, number, across):
+        """Join the rooms at both sides of a wall wherever they share more than a point that no edge shuts."""
+        sides = [[self.height(pair, across) for pair in self.floors[number + k]] for k in (0, 1)]
+        shut = [pair for pair in self.edges if self.across(pair[0]) == self.across(pair[1]) == across]
+        stops = {up for x, up in self.vertices if x == across} | set(sides[0]) | set(sides[1])
+        stops = sorted(stops)
+        gaps = [stops[0] - 1] + [(a + b) / 2 for a, b in zip(stops, stops[1:])] + [stops[-1] + 1]
+        for up in gaps:
+            if not any(self.vertices[a][1] < up < self.vertices[b][1] for a, b in shut):
+                low, high = [sum(floor < up for floor in side) for side in sides]
+                self.join((number, low), (number + 1, high))
+
+    def join(self, one, other):
+        self.joined[self.root(one)] = self.root(other)
+
+    def root(self, room):
+        while self.joined[room] != room:
+            room = self.joined[room]
+        return room
+
+    def at_left(self, start, end):
+        """The room at the left of a dart, somewhere along it."""
+        (ax, ay), (bx, by) = self.vertices[start], self.vertices[end]
+        if ax == bx:
+            wall = self.walls.index(ax)
+            slab = wall if ay < by else wall + 1
+            heights = [self.height(pair, ax) for pair in self.floors[slab]]
+            return self.root((slab, sum(floor < (ay + by) / 2 for floor in heights)))
+        slab = self.walls.index(min(ax, bx)) + 1
+        floor = self.floors[slab].index((min(start, end), max(start, end)))
+        return self.root((slab, floor + 1 if ax < bx else floor))
+
+    def area(self, root):
+        """What the rooms of one root, none of them without end, cover together."""
+        total = Fraction(0)
+        for slab, room in self.joined:
+            if self.root((slab, room)) == root:
+                left, right = self.walls[slab - 1], self.walls[slab]
+                low, high = self.floors[slab][room - 1], self.floors[slab][room]
+                middle = (left + right) / 2
+                total += (right - left) * (self.height(high, middle) - self.height(low, middle))
+        return total
+
+
+def pieces_by_vertex(vertices, edges):
+    """For each vertex the least vertex of its piece."""
+    pieces = {}
+    for number in range(len(vertices)):
+        waiting = [number]
+        while waiting:
+            here = waiting.pop()
+            if here not in pieces:
+                pieces[here] = number
+                waiting += neighbours_of(here, vertices, edges)
+    return pieces
+
+
+def answers(segments):
+    """What edge answers for each edge, and what face answers for each face."""
+    if not segments:
+        return [], [[0, 0, 1]]
+    rooms = Rooms(segments)
+    darts = sorted(rooms.edges + [(b, a) for a, b in rooms.edges])
+    lefts = {dart: rooms.at_left(*dart) for dart in darts}
+    # What is furthest left of a face's border is on its own cycle, so its first dart is its own cycle's.
+    order = [rooms.root((0, 0))]
+    for dart in darts:
+        if lefts[dart] not in order:
+            order.append(lefts[dart])
+    edges = [[a, b, order.index(lefts[a, b]), order.index(lefts[b, a])] for a, b in rooms.edges]
+    areas = [rooms.area(root) for root in order[1:]]
+    # What is within face 0 covers all the others together.
+    areas = [-sum(areas, Fraction(0))] + areas
+    pieces = pieces_by_vertex(rooms.vertices, rooms.edges)
+    # A piece has one cycle in each face that it borders on.
+    counts = [len({pieces[dart[0]] for dart in darts if lefts[dart] == root}) for root in order]
+    return edges, [[count, area.numerator, area.denominator] for count, area in zip(counts, areas)]
