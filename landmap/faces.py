@@ -2,25 +2,33 @@
 
 MOST_SEGMENTS = 10
 FARTHEST = 100
+MOST_ABOVE = 100000
+MOST_BELOW = 1000
 
 BAD_SEGMENT = -1
 TOO_MANY_SEGMENTS = -2
 NO_SUCH_ONE = -3
+BAD_POINT = -4
+
+AT_VERTEX = 0
+ON_EDGE = 1
+IN_FACE = 2
 
 
 def map_of(segments):
     """Answer how many vertices, edges, faces and pieces the segments make."""
-    refused = refusal_of_segments(segments)
+    refused = refusal_of(segments, [])
     if refused < 0:
         return [refused]
     land = Land(segments)
-    pieces = count_pieces(len(land.points), land.edges)
-    return [len(land.points), len(land.edges), count_faces(land.areas), pieces]
+    # Of a piece's cycles just one isn't above 0, that which has the whole piece at its right.
+    pieces = len(land.cycles) - len(land.owners)
+    return [len(land.points), len(land.edges), count_faces(land), pieces]
 
 
 def vertex(i, segments):
     """Answer vertex i: how many neighbours, its place, its neighbours round it."""
-    refused = refusal_of_segments(segments)
+    refused = refusal_of(segments, [])
     if refused < 0:
         return [refused]
     land = Land(segments)
@@ -33,7 +41,7 @@ def vertex(i, segments):
 
 def edge(i, segments):
     """Answer edge i: its two vertices, then the faces at its left and at its right."""
-    refused = refusal_of_segments(segments)
+    refused = refusal_of(segments, [])
     if refused < 0:
         return [refused]
     land = Land(segments)
@@ -42,28 +50,50 @@ def edge(i, segments):
     low = land.edges[i][0]
     high = land.edges[i][1]
     # What is at an edge's right is at the left of the way back.
-    return [low, high, face_at_left((low, high), land), face_at_left((high, low), land)]
+    return [low, high, land.lefts[(low, high)], land.lefts[(high, low)]]
 
 
 def face(i, segments):
     """Answer face i: how many cycles, then its area."""
-    refused = refusal_of_segments(segments)
+    refused = refusal_of(segments, [])
     if refused < 0:
         return [refused]
     land = Land(segments)
-    if i < 0 or i >= count_faces(land.areas):
+    if i < 0 or i >= count_faces(land):
         return [NO_SUCH_ONE]
     areas = [land.areas[k] for k in range(len(land.cycles)) if land.homes[k] == i]
     return [len(areas)] + lowest_terms(sum(areas), 2 * land.scale ** 2)
 
 
-def refusal_of_segments(segments):
-    """The number that refuses the segments, or 0."""
+def cycle(f, k, segments):
+    """Answer cycle k of face f: how many darts, then the vertices from which they go."""
+    refused = refusal_of(segments, [])
+    if refused < 0:
+        return [refused]
+    land = Land(segments)
+    # A face's own cycle begins further left than all within it, so in the cycles' order it is the first.
+    walks = [land.cycles[j] for j in range(len(land.cycles)) if land.homes[j] == f]
+    if k < 0 or k >= len(walks):
+        return [NO_SUCH_ONE]
+    return [len(walks[k])] + walks[k]
+
+
+def locate(point, segments):
+    """Answer where the point lies: 0 and a vertex, 1 and an edge, or 2 and a face."""
+    refused = refusal_of(segments, [point])
+    if refused < 0:
+        return [refused]
+    return whereabouts(point, Land(segments, point[1] * point[3]))
+
+
+def refusal_of(segments, points):
+    """The number that refuses the segments or one of the points, or 0."""
     if len(segments) > MOST_SEGMENTS:
         return TOO_MANY_SEGMENTS
-    for segment in segments:
-        if not is_right_segment(segment):
-            return BAD_SEGMENT
+    if not all([is_right_segment(segment) for segment in segments]):
+        return BAD_SEGMENT
+    if not all([is_right_point(point) for point in points]):
+        return BAD_POINT
     return 0
 
 
@@ -75,27 +105,39 @@ def is_right_segment(segment):
     return segment[:2] != segment[2:]
 
 
+def is_right_point(point):
+    return len(point) == 4 and is_right_fraction(point[:2]) and is_right_fraction(point[2:])
+
+
+def is_right_fraction(pair):
+    return abs(pair[0]) <= MOST_ABOVE and 1 <= pair[1] and pair[1] <= MOST_BELOW
+
+
 class Land:
 
-    def __init__(self, segments):
+    def __init__(self, segments, finer=1):
         """What the segments make.
 
-        scale: by how much all places are multiplied, so that each of them is whole;
+        scale: by how much all places are multiplied, so that each of them is whole, a multiple of finer;
         points: the vertices' places (across, up), so multiplied, by the vertices' numbers;
         edges: pairs of vertices, by the edges' numbers;
         rings: for each vertex its neighbours, from the way straight to the right on, turning left;
         cycles: the cycles in order, each as the vertices from which its darts go;
         areas: for each cycle twice the area that it goes round, multiplied by the scale twice;
-        homes: for each cycle the face whose own it is, or within which it is.
+        owners: which cycles are above 0; the first of them is face 1's own, and so on;
+        homes: for each cycle the face whose own it is, or within which it is;
+        lefts: for each dart the face at its left.
         """
-        self.scale = common_scale(segments)
+        self.scale = finer * common_scale(segments)
         lines = [scaled_line(segment, self.scale) for segment in segments]
         self.points = all_points(lines)
         self.edges = all_edges(lines, self.points)
         self.rings = all_rings(self.points, self.edges)
         self.cycles = all_cycles(self.rings)
         self.areas = [doubled_area(walk, self.points) for walk in self.cycles]
-        self.homes = all_homes(self.cycles, self.areas, self.points)
+        self.owners = [k for k in range(len(self.areas)) if self.areas[k] > 0]
+        self.homes = [home_of(k, self) for k in range(len(self.cycles))]
+        self.lefts = all_lefts(self.cycles, self.homes)
 
 
 def common_scale(segments):
@@ -260,37 +302,24 @@ def doubled_area(walk, points):
     return total
 
 
-def count_faces(areas):
+def count_faces(land):
     # The face without end is there even if no cycle goes round anything.
-    return 1 + len(bounding_cycles(areas))
+    return 1 + len(land.owners)
 
 
-def bounding_cycles(areas):
-    """Which cycles go round something; the first of them is of face 1."""
-    return [k for k in range(len(areas)) if areas[k] > 0]
+def home_of(k, land):
+    """The face whose own cycle k is, or within which it is."""
+    if k in land.owners:
+        return 1 + land.owners.index(k)
+    return face_round(land.points[land.cycles[k][0]], land)
 
 
-def all_homes(cycles, areas, points):
-    """For each cycle the face whose own it is, or within which it is."""
-    homes = []
-    for k in range(len(cycles)):
-        if areas[k] > 0:
-            homes.append(face_of_cycle(k, areas))
-        else:
-            homes.append(face_round(points[cycles[k][0]], cycles, areas, points))
-    return homes
-
-
-def face_of_cycle(k, areas):
-    return 1 + bounding_cycles(areas).index(k)
-
-
-def face_round(place, cycles, areas, points):
+def face_round(place, land):
     """The face of that cycle which goes round the least area, of those that go round the place."""
-    around = [k for k in bounding_cycles(areas) if goes_round(cycles[k], place, points)]
+    around = [k for k in land.owners if goes_round(land.cycles[k], place, land.points)]
     if around == []:
         return 0
-    return face_of_cycle(min(around, key=lambda k: areas[k]), areas)
+    return 1 + land.owners.index(min(around, key=lambda k: land.areas[k]))
 
 
 def goes_round(walk, place, points):
@@ -311,21 +340,23 @@ def passes(a, b, place):
     return 0
 
 
-def face_at_left(dart, land):
-    """The face whose own cycle, or a cycle within it, has the dart."""
-    holders = [k for k in range(len(land.cycles)) if has_dart(land.cycles[k], dart)]
-    return land.homes[holders[0]]
+def all_lefts(cycles, homes):
+    """For each dart the face whose own cycle, or a cycle within it, has the dart."""
+    lefts = {}
+    for k in range(len(cycles)):
+        walk = cycles[k]
+        for j in range(len(walk)):
+            lefts[(walk[j - 1], walk[j])] = homes[k]
+    return lefts
 
 
-def has_dart(walk, dart):
-    return dart in [(walk[k - 1], walk[k]) for k in range(len(walk))]
-
-
-def count_pieces(vertices, edges):
-    """How many pieces so many vertices make by these edges."""
-    labels = list(range(vertices))
-    for pair in edges:
-        kept = labels[pair[0]]
-        lost = labels[pair[1]]
-        labels = [kept if label == lost else label for label in labels]
-    return len(set(labels))
+def whereabouts(point, land):
+    """On or in what the point lies, and its number; the land's scale must make the point whole."""
+    place = (point[0] * land.scale // point[1], point[2] * land.scale // point[3])
+    if place in land.points:
+        return [AT_VERTEX, land.points.index(place)]
+    for k in range(len(land.edges)):
+        pair = land.edges[k]
+        if lies_on(place, (land.points[pair[0]], land.points[pair[1]])):
+            return [ON_EDGE, k]
+    return [IN_FACE, face_round(place, land)]

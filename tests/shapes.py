@@ -1,5 +1,5 @@
 """Shapes that the tests' maps are made of, and all answers of one kind for a map."""
-from landmap.faces import edge, face, map_of
+from landmap.faces import cycle, edge, face, map_of
 
 
 def ring(*corners):
@@ -17,6 +17,11 @@ def all_edges_of(segments):
 
 def all_faces_of(segments):
     return [face(i, segments) for i in range(map_of(segments)[2])]
+
+
+def all_cycles_of(segments):
+    """For each face all its cycles."""
+    return [[cycle(f, k, segments) for k in range(answer[0])] for f, answer in enumerate(all_faces_of(segments))]
 
 
 def turned(segments):

@@ -1,11 +1,11 @@
-"""The same edges and faces reckoned in another way: by upright slabs that are cut into rooms and joined again.
+"""The same edges, faces and cycles reckoned in another way: by upright slabs that are cut into rooms and joined again.
 
 Between two vertices' places across, one behind the other, no edge begins or ends: the edges there lie over one
 another and part the slab into rooms. Rooms of neighbouring slabs are one face where no edge stands between them.
 """
 from fractions import Fraction
 
-from reckoning import edges_of, neighbours_of, vertices_of
+from reckoning import edges_of, how_far_along, neighbours_of, vertices_of
 
 
 class Rooms:
@@ -64,6 +64,12 @@ class Rooms:
         floor = self.floors[slab].index((min(start, end), max(start, end)))
         return self.root((slab, floor + 1 if ax < bx else floor))
 
+    def at(self, across, up):
+        """The room of a place that is on no edge."""
+        slab = sum(wall < across for wall in self.walls)
+        heights = [self.height(pair, across) for pair in self.floors[slab]]
+        return self.root((slab, sum(floor < up for floor in heights)))
+
     def area(self, root):
         """What the rooms of one root, none of them without end, cover together."""
         total = Fraction(0)
@@ -89,23 +95,67 @@ def pieces_by_vertex(vertices, edges):
     return pieces
 
 
-def answers(segments):
-    """What edge answers for each edge, and what face answers for each face."""
-    if not segments:
-        return [], [[0, 0, 1]]
-    rooms = Rooms(segments)
-    darts = sorted(rooms.edges + [(b, a) for a, b in rooms.edges])
-    lefts = {dart: rooms.at_left(*dart) for dart in darts}
-    # What is furthest left of a face's border is on its own cycle, so its first dart is its own cycle's.
-    order = [rooms.root((0, 0))]
-    for dart in darts:
-        if lefts[dart] not in order:
-            order.append(lefts[dart])
-    edges = [[a, b, order.index(lefts[a, b]), order.index(lefts[b, a])] for a, b in rooms.edges]
-    areas = [rooms.area(root) for root in order[1:]]
-    # What is within face 0 covers all the others together.
-    areas = [-sum(areas, Fraction(0))] + areas
-    pieces = pieces_by_vertex(rooms.vertices, rooms.edges)
-    # A piece has one cycle in each face that it borders on.
-    counts = [len({pieces[dart[0]] for dart in darts if lefts[dart] == root}) for root in order]
-    return edges, [[count, area.numerator, area.denominator] for count, area in zip(counts, areas)]
+class Plan:
+    """The rooms of a map that has segments, with its faces in order."""
+
+    def __init__(self, segments):
+        self.rooms = Rooms(segments)
+        self.vertices = self.rooms.vertices
+        self.edges = self.rooms.edges
+        self.darts = sorted(self.edges + [(b, a) for a, b in self.edges])
+        self.lefts = {dart: self.rooms.at_left(*dart) for dart in self.darts}
+        self.pieces = pieces_by_vertex(self.vertices, self.edges)
+        # What is furthest left of a face's border is on its own cycle, so its first dart is its own cycle's.
+        self.faces = [self.rooms.root((0, 0))]
+        for dart in self.darts:
+            if self.lefts[dart] not in self.faces:
+                self.faces.append(self.lefts[dart])
+
+    def edge_answers(self):
+        sides = [[self.lefts[a, b], self.lefts[b, a]] for a, b in self.edges]
+        return [[*pair, *map(self.faces.index, roots)] for pair, roots in zip(self.edges, sides)]
+
+    def face_answers(self):
+        areas = [self.rooms.area(root) for root in self.faces[1:]]
+        # What is within face 0 covers all the others together.
+        areas = [-sum(areas, Fraction(0))] + areas
+        borders = [self.borders(root) for root in self.faces]
+        return [[len(border), area.numerator, area.denominator] for border, area in zip(borders, areas)]
+
+    def cycle_answers(self):
+        """For each face what cycle answers for each of its cycles."""
+        return [[self.walk(border) for border in self.borders(root)] for root in self.faces]
+
+    def borders(self, root):
+        """The darts that have the face at their left, by pieces: a piece has one cycle in each face it borders on."""
+        borders = {}
+        for dart in self.darts:
+            if self.lefts[dart] == root:
+                borders.setdefault(self.pieces[dart[0]], []).append(dart)
+        return list(borders.values())
+
+    def walk(self, border):
+        """How many darts, then where they begin, one behind the other from the first on."""
+        walked = [border[0]]
+        dart = self.behind(border[0])
+        while dart != border[0]:
+            walked.append(dart)
+            dart = self.behind(dart)
+        return [len(walked)] + [start for start, _ in walked]
+
+    def behind(self, dart):
+        ring = neighbours_of(dart[1], self.vertices, self.edges)
+        return (dart[1], ring[ring.index(dart[0]) - 1])
+
+    def locate_answer(self, point):
+        place = place_of(point)
+        if place in self.vertices:
+            return [0, self.vertices.index(place)]
+        for number, (a, b) in enumerate(self.edges):
+            if how_far_along(self.vertices[a] + self.vertices[b], place) is not None:
+                return [1, number]
+        return [2, self.faces.index(self.rooms.at(*place))]
+
+
+def place_of(point):
+    return (Fraction(point[0], point[1]), Fraction(point[2], point[3]))

@@ -8,7 +8,7 @@ import subprocess
 import sys
 import unittest
 
-from landmap.faces import edge, face, map_of, vertex
+from landmap.faces import cycle, edge, face, locate, map_of, vertex
 
 TOP = os.path.dirname(os.path.dirname(os.path.abspath(__file__)))
 
@@ -25,6 +25,8 @@ MAPS = [
     [[0, 0, 3, 4]] * 11,
 ]
 NUMBERS = (-1, 0, 1, 4, 70)
+PAIRS = ((0, 0), (0, 1), (1, 0), (1, 1), (2, 0), (-1, 0), (0, -1))
+POINTS = ([0, 1, 0, 1], [4, 2, 0, 5], [3, 2, 3, 2], [3, 2, 5, 3], [-1, 3, 50, 1000], [0, 0, 0, 1], [5, 1, 5], [])
 
 
 class Untouchable(list):
@@ -37,24 +39,26 @@ class Untouchable(list):
     __setitem__ = __delitem__ = __iadd__ = __imul__ = refuse
 
 
-def untouchable(segments):
-    return Untouchable([Untouchable(segment) for segment in segments])
+def untouchable(lists):
+    return Untouchable([Untouchable(numbers) for numbers in lists])
 
 
-def all_answers(segments):
-    return [map_of(segments)] + [call(i, segments) for call in (vertex, edge, face) for i in NUMBERS]
+def all_answers(segments, points=POINTS):
+    answers = [map_of(segments)] + [call(i, segments) for call in (vertex, edge, face) for i in NUMBERS]
+    answers += [cycle(*pair, segments) for pair in PAIRS]
+    return answers + [locate(point, segments) for point in points]
 
 
 class HandedIn(unittest.TestCase):
     def test_is_as_it_was(self):
         for segments in MAPS:
-            before = copy.deepcopy(segments)
+            before = copy.deepcopy((segments, POINTS))
             all_answers(segments)
-            self.assertEqual(segments, before)
+            self.assertEqual((segments, POINTS), before)
 
     def test_is_not_changed_for_a_while_either(self):
         for segments in MAPS:
-            self.assertEqual(all_answers(untouchable(segments)), all_answers(segments))
+            self.assertEqual(all_answers(untouchable(segments), untouchable(POINTS)), all_answers(segments))
 
 
 class Kept(unittest.TestCase):
@@ -82,6 +86,27 @@ class Kept(unittest.TestCase):
         segments[2][3] = 0
         self.assertEqual([edge(0, segments), face(0, segments)], [[0, 1, 0, 1], [1, -50, 1]])
         self.assertEqual(face(1, segments), [1, 50, 1])
+
+    def test_segments_changed_between_calls_of_cycle_and_locate(self):
+        segments = [[0, 0, 10, 0], [10, 0, 0, 10], [0, 10, 0, 1]]
+        # 0: 0,0   1: 0,1   2: 0,10   3: 10,0
+        self.assertEqual(cycle(0, 0, segments), [6, 0, 3, 2, 1, 2, 3])
+        self.assertEqual([cycle(1, 0, segments), locate([1, 1, 1, 1], segments)], [[-3], [2, 0]])
+        segments[2][3] = 0
+        # 0: 0,0   1: 0,10   2: 10,0
+        self.assertEqual([cycle(0, 0, segments), cycle(1, 0, segments)], [[3, 0, 1, 2], [3, 0, 2, 1]])
+        self.assertEqual(locate([1, 1, 1, 1], segments), [2, 1])
+
+    def test_point_changed_between_calls(self):
+        segments = [[0, 0, 10, 0], [10, 0, 0, 10], [0, 10, 0, 0]]
+        point = [1, 1, 1, 1]
+        self.assertEqual(locate(point, segments), [2, 1])
+        point[2] = 0
+        self.assertEqual(locate(point, segments), [1, 1])
+        point[0] = 0
+        self.assertEqual(locate(point, segments), [0, 0])
+        point.append(1)
+        self.assertEqual(locate(point, segments), [-4])
 
     def test_changing_an_answer_changes_no_later_one(self):
         for segments in MAPS:
@@ -112,17 +137,27 @@ class Answers(unittest.TestCase):
                 self.assertEqual(len(told), 5 + told[0])
             for i in range(counted[1]):
                 self.assertEqual(len(edge(i, segments)), 4)
-            for i in range(counted[2]):
-                self.assertEqual(len(face(i, segments)), 3)
+            for f in range(counted[2]):
+                told = face(f, segments)
+                self.assertEqual(len(told), 3)
+                for k in range(told[0]):
+                    walk = cycle(f, k, segments)
+                    self.assertEqual(len(walk), 1 + walk[0])
+            for point in ([0, 1, 0, 1], [4, 2, 0, 5], [99, 1, 99, 1]):
+                self.assertEqual(len(locate(point, segments)), 2)
 
     def test_names_of_arguments(self):
         self.assertEqual(list(inspect.signature(map_of).parameters), ["segments"])
         for call in (vertex, edge, face):
             self.assertEqual(list(inspect.signature(call).parameters), ["i", "segments"])
+        self.assertEqual(list(inspect.signature(cycle).parameters), ["f", "k", "segments"])
+        self.assertEqual(list(inspect.signature(locate).parameters), ["point", "segments"])
         self.assertEqual(map_of(segments=[[0, 0, 3, 4]]), [2, 1, 1, 1])
         self.assertEqual(vertex(i=1, segments=[[0, 0, 3, 4]]), [1, 3, 1, 4, 1, 0])
         self.assertEqual(edge(i=0, segments=[[0, 0, 3, 4]]), [0, 1, 0, 0])
         self.assertEqual(face(i=0, segments=[[0, 0, 3, 4]]), [1, 0, 1])
+        self.assertEqual(cycle(f=0, k=0, segments=[[0, 0, 3, 4]]), [2, 0, 1])
+        self.assertEqual(locate(point=[3, 2, 2, 1], segments=[[0, 0, 3, 4]]), [1, 0])
 
 
 class World(unittest.TestCase):
@@ -143,6 +178,8 @@ class World(unittest.TestCase):
             "landmap.faces.vertex(2, [[0, 0, 2, 1], [0, 1, 1, 0]])\n"
             "landmap.faces.edge(2, [[0, 0, 2, 1], [0, 1, 1, 0]])\n"
             "landmap.faces.face(0, [[0, 0, 2, 1], [0, 1, 1, 0]])\n"
+            "landmap.faces.cycle(0, 0, [[0, 0, 2, 1], [0, 1, 1, 0]])\n"
+            "landmap.faces.locate([2, 3, 1, 3], [[0, 0, 2, 1], [0, 1, 1, 0]])\n"
             "print(sorted(set(sys.modules) - before))\n"
         )
         ran = subprocess.run([sys.executable, "-c", script], cwd=TOP, capture_output=True, text=True)

@@ -1,11 +1,12 @@
 """Many maps, drawn from fixed seeds, against the answers reckoned in another way."""
 import random
 import unittest
+from fractions import Fraction
 
 import reckoning
 import slabs
-from landmap.faces import edge, face, map_of, vertex
-from shapes import all_edges_of, all_faces_of, ring
+from landmap.faces import cycle, edge, face, locate, map_of, vertex
+from shapes import all_cycles_of, all_edges_of, all_faces_of, ring
 
 
 def drawn_segments(source, count, reach):
@@ -35,6 +36,35 @@ def drawn_nest(source, least):
     return [segment for segment in segments if segment[:2] != segment[2:]]
 
 
+def told(source, across, up):
+    """The place as a point, perhaps not in lowest terms; None if it can't be told within the bounds."""
+    point = []
+    for number in (Fraction(across), Fraction(up)):
+        factor = source.choice([1, 1, 2, 3, 7])
+        point += [number.numerator * factor, number.denominator * factor]
+    if max(point[1], point[3]) > 1000 or max(abs(point[0]), abs(point[2])) > 100000:
+        return None
+    return point
+
+
+def drawn_points(source, plan):
+    """Points at vertices, on edges, just beside them, as high as vertices, and anywhere."""
+    places = []
+    for a, b in source.sample(plan.edges, min(len(plan.edges), 6)):
+        (ax, ay), (bx, by) = plan.vertices[a], plan.vertices[b]
+        along = Fraction(source.randint(-1, 4), 3)
+        x, y = ax + along * (bx - ax), ay + along * (by - ay)
+        aside = Fraction(source.choice([-1, 1]), 60)
+        places += [(ax, ay), (bx, by), (x, y), (x + aside, y), (x, y + aside), (x, by), (ax, y)]
+    reach = 1 + int(max(abs(number) for place in plan.vertices for number in place))
+    for _ in range(6):
+        places.append([Fraction(source.randint(-60 * reach, 60 * reach), 60) for _ in range(2)])
+        amid = [sum(source.choice(plan.vertices)[k] for _ in range(3)) / 3 for k in (0, 1)]
+        places.append([Fraction(round(60 * number), 60) for number in amid])
+    points = [told(source, *place) for place in places]
+    return [point for point in points if point is not None]
+
+
 class AgainstReckoning(unittest.TestCase):
     def agrees(self, segments):
         self.assertEqual(map_of(segments), reckoning.map_answer(segments), segments)
@@ -42,14 +72,24 @@ class AgainstReckoning(unittest.TestCase):
         answered = [vertex(i, segments) for i in range(len(expected))]
         self.assertEqual(answered, expected, segments)
         self.assertEqual(vertex(len(expected), segments), [-3], segments)
-        self.edges_and_faces_agree(segments)
+        self.faces_agree(segments)
 
-    def edges_and_faces_agree(self, segments):
-        edges, faces = slabs.answers(segments)
+    def faces_agree(self, segments):
+        plan = slabs.Plan(segments)
+        edges, faces, cycles = plan.edge_answers(), plan.face_answers(), plan.cycle_answers()
         self.assertEqual(all_edges_of(segments), edges, segments)
         self.assertEqual(all_faces_of(segments), faces, segments)
+        self.assertEqual(all_cycles_of(segments), cycles, segments)
         self.assertEqual(edge(len(edges), segments), [-3], segments)
         self.assertEqual(face(len(faces), segments), [-3], segments)
+        self.assertEqual(cycle(len(faces), 0, segments), [-3], segments)
+        for f, of_face in enumerate(cycles):
+            self.assertEqual(cycle(f, len(of_face), segments), [-3], segments)
+        self.points_agree(segments, plan)
+
+    def points_agree(self, segments, plan):
+        for point in drawn_points(random.Random(repr(segments)), plan):
+            self.assertEqual(locate(point, segments), plan.locate_answer(point), (point, segments))
 
     def many(self, seed, maps, reach, counts):
         source = random.Random(seed)
@@ -72,12 +112,12 @@ class AgainstReckoning(unittest.TestCase):
     def test_nests(self):
         source = random.Random(6)
         for _ in range(100):
-            self.edges_and_faces_agree(drawn_nest(source, 1))
+            self.faces_agree(drawn_nest(source, 1))
 
     def test_nests_that_touch(self):
         source = random.Random(7)
         for _ in range(100):
-            self.edges_and_faces_agree(drawn_nest(source, 0))
+            self.faces_agree(drawn_nest(source, 0))
 
 
 if __name__ == "__main__":

@@ -1,11 +1,12 @@
 """What is refused, with which number, and what is just not refused."""
 import unittest
 
-from landmap.faces import edge, face, map_of, vertex
+from landmap.faces import cycle, edge, face, locate, map_of, vertex
 
 LARGEST = 4294967295
 GOOD = [0, 0, 3, 4]
-
+GOOD_POINT = [1, 2, 3, 4]
+WRONG_POINTS = ([], [0, 1, 0], [0, 1, 0, 1, 0], [0, 0, 0, 1], [0, 1, 0, 1001], [100001, 1, 0, 1], [LARGEST] * 12)
 
 CROSSING = [[0, 0, 10, 10], [0, 10, 10, 0]]
 TRIANGLE = [[0, 0, 10, 0], [10, 0, 0, 10], [0, 10, 0, 0]]
@@ -18,12 +19,18 @@ class RefusalCase(unittest.TestCase):
         for call in BY_NUMBER:
             for i in (-LARGEST, -1, 0, 1, 2, LARGEST):
                 self.assertEqual(call(i, segments), [number])
+        for pair in ((0, 0), (-1, 0), (0, -1), (1, 1), (LARGEST, LARGEST)):
+            self.assertEqual(cycle(*pair, segments), [number])
+        for point in (GOOD_POINT, *WRONG_POINTS):
+            self.assertEqual(locate(point, segments), [number])
 
     def all_take(self, segments):
         self.assertEqual(len(map_of(segments)), 4)
         self.assertGreater(vertex(0, segments)[0], 0)
         self.assertEqual(len(edge(0, segments)), 4)
         self.assertEqual(len(face(0, segments)), 3)
+        self.assertGreater(cycle(0, 0, segments)[0], 1)
+        self.assertEqual(len(locate(GOOD_POINT, segments)), 2)
 
 
 class TooMany(RefusalCase):
@@ -92,6 +99,64 @@ class WrongSegment(RefusalCase):
 
     def test_several_faults_of_the_same_number(self):
         self.all_refuse(-1, [[], [5, 5, 5, 5], [0, 0, 0, 101], [1, 2, 3, 4, 5]])
+
+
+class WrongPoint(RefusalCase):
+    """Also where there are no segments at all, and where the point would be a vertex."""
+
+    def refused(self, point):
+        for segments in ([], [GOOD], CROSSING, TRIANGLE, [[0, k, 5, k] for k in range(10)]):
+            self.assertEqual(locate(point, segments), [-4], (point, segments))
+
+    def taken(self, point):
+        for segments in ([], [GOOD], CROSSING, TRIANGLE):
+            self.assertEqual(len(locate(point, segments)), 2, (point, segments))
+
+    def test_count_of_numbers(self):
+        for count in range(13):
+            if count != 4:
+                self.refused([1] * count)
+                self.refused([0, 1, 0, 1, 0, 1, 0, 1, 0, 1, 0, 1][:count])
+                self.refused([LARGEST] * count)
+        self.taken([1] * 4)
+
+    def test_what_is_above(self):
+        for place in (0, 2):
+            for number in (-100001, 100001, 100002, -LARGEST, LARGEST):
+                for below in (1, 1000):
+                    self.refused(self.changed([0, below, 0, below], place, number))
+            for number in (-100000, -99999, 0, 99999, 100000):
+                self.taken(self.changed([0, 1, 0, 1], place, number))
+                self.taken(self.changed([0, 1000, 0, 1000], place, number))
+
+    def test_what_is_below(self):
+        for place in (1, 3):
+            for number in (0, -1, -2, -1000, 1001, 1002, -LARGEST, LARGEST):
+                for above in (0, 1, 10, -100000):
+                    self.refused(self.changed([above, 1, above, 1], place, number))
+            for number in (1, 2, 999, 1000):
+                self.taken(self.changed([10, 1, 10, 1], place, number))
+
+    def changed(self, point, place, number):
+        return point[:place] + [number] + point[place + 1:]
+
+    def test_is_judged_as_told_not_in_lowest_terms(self):
+        self.refused([100002, 2, 0, 1])
+        self.refused([2000, 2000, 0, 1])
+        self.refused([-3, -1, 4, 1])
+
+    def test_several_numbers(self):
+        self.refused([0, 0, 0, 0])
+        self.refused([LARGEST] * 4)
+        self.refused([-LARGEST] * 4)
+
+    def test_is_told_behind_the_refusals_of_segments(self):
+        for point in WRONG_POINTS:
+            self.refused(point)
+            self.assertEqual(locate(point, [[0, 0, 0, 0]]), [-1])
+            self.assertEqual(locate(point, [GOOD, [0, 0, 101, 0]]), [-1])
+            self.assertEqual(locate(point, [GOOD] * 11), [-2])
+            self.assertEqual(locate(point, [[]] * 12), [-2])
 
 
 class NoSuchOne(RefusalCase):
