@@ -9,6 +9,7 @@ BAD_SEGMENT = -1
 TOO_MANY_SEGMENTS = -2
 NO_SUCH_ONE = -3
 BAD_POINT = -4
+POINT_IN_NO_FACE = -5
 
 AT_VERTEX = 0
 ON_EDGE = 1
@@ -84,6 +85,21 @@ def locate(point, segments):
     if refused < 0:
         return [refused]
     return whereabouts(point, Land(segments, point[1] * point[3]))
+
+
+def cross(points, segments):
+    """Answer how few edges must be crossed from the one point, the first four numbers, to the other."""
+    one = points[:4]
+    other = points[4:]
+    refused = refusal_of(segments, [one, other])
+    if refused < 0:
+        return [refused]
+    land = Land(segments, one[1] * one[3] * other[1] * other[3])
+    start = whereabouts(one, land)
+    goal = whereabouts(other, land)
+    if start[0] != IN_FACE or goal[0] != IN_FACE:
+        return [POINT_IN_NO_FACE]
+    return [fewest_crossings(start[1], goal[1], land.lefts)]
 
 
 def refusal_of(segments, points):
@@ -212,7 +228,7 @@ def meeting(line, other):
 
 def reaches_across(first_off, second_off):
     """Whether two ends are not both at the same side of a line."""
-    return first_off * second_off <= 0
+    return min(first_off, second_off) <= 0 and max(first_off, second_off) >= 0
 
 
 def all_edges(lines, points):
@@ -360,3 +376,16 @@ def whereabouts(point, land):
         if lies_on(place, (land.points[pair[0]], land.points[pair[1]])):
             return [ON_EDGE, k]
     return [IN_FACE, face_round(place, land)]
+
+
+def fewest_crossings(start, goal, lefts):
+    """How few edges must be crossed from the one face to the other."""
+    reached = [start]
+    count = 0
+    # Between any two faces there is a way across edges, so the goal is reached.
+    while goal not in reached:
+        # At a dart's other side is what is at the left of the way back.
+        beyond = [lefts[(dart[1], dart[0])] for dart in lefts if lefts[dart] in reached]
+        reached = sorted(set(reached + beyond))
+        count += 1
+    return count

@@ -18,6 +18,11 @@ class Rooms:
         # The first and the last slab have no edges and no end.
         self.floors = [[]] + [self.floors_between(*pair) for pair in zip(self.walls, self.walls[1:])] + [[]]
         self.joined = {(s, h): (s, h) for s, floors in enumerate(self.floors) for h in range(len(floors) + 1)}
+        # From each room those that are beside it, each with how many edges stand between: 0 or 1.
+        self.beside = {room: [] for room in self.joined}
+        for slab, floors in enumerate(self.floors):
+            for height in range(len(floors)):
+                self.put_beside((slab, height), (slab, height + 1), 1)
         for number, across in enumerate(self.walls):
             self.join_through(number, across)
 
@@ -40,9 +45,15 @@ class Rooms:
         stops = sorted(stops)
         gaps = [stops[0] - 1] + [(a + b) / 2 for a, b in zip(stops, stops[1:])] + [stops[-1] + 1]
         for up in gaps:
-            if not any(self.vertices[a][1] < up < self.vertices[b][1] for a, b in shut):
-                low, high = [sum(floor < up for floor in side) for side in sides]
+            is_shut = any(self.vertices[a][1] < up < self.vertices[b][1] for a, b in shut)
+            low, high = [sum(floor < up for floor in side) for side in sides]
+            self.put_beside((number, low), (number + 1, high), 1 if is_shut else 0)
+            if not is_shut:
                 self.join((number, low), (number + 1, high))
+
+    def put_beside(self, one, other, edges):
+        self.beside[one].append((other, edges))
+        self.beside[other].append((one, edges))
 
     def join(self, one, other):
         self.joined[self.root(one)] = self.root(other)
@@ -68,7 +79,19 @@ class Rooms:
         """The room of a place that is on no edge."""
         slab = sum(wall < across for wall in self.walls)
         heights = [self.height(pair, across) for pair in self.floors[slab]]
-        return self.root((slab, sum(floor < up for floor in heights)))
+        return (slab, sum(floor < up for floor in heights))
+
+    def edges_on_the_way(self, start):
+        """For each room how few edges stand on a way there, from room to room."""
+        found = {start: 0}
+        waiting = [start]
+        while waiting:
+            room = waiting.pop(0)
+            for other, edges in self.beside[room]:
+                if other not in found or found[room] + edges < found[other]:
+                    found[other] = found[room] + edges
+                    waiting.append(other)
+        return found
 
     def area(self, root):
         """What the rooms of one root, none of them without end, cover together."""
@@ -154,7 +177,13 @@ class Plan:
         for number, (a, b) in enumerate(self.edges):
             if how_far_along(self.vertices[a] + self.vertices[b], place) is not None:
                 return [1, number]
-        return [2, self.faces.index(self.rooms.at(*place))]
+        return [2, self.faces.index(self.rooms.root(self.rooms.at(*place)))]
+
+    def cross_answer(self, one, other):
+        if any(self.locate_answer(point)[0] != 2 for point in (one, other)):
+            return [-5]
+        start, goal = [self.rooms.at(*place_of(point)) for point in (one, other)]
+        return [self.rooms.edges_on_the_way(start)[goal]]
 
 
 def place_of(point):

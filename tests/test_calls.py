@@ -8,7 +8,7 @@ import subprocess
 import sys
 import unittest
 
-from landmap.faces import cycle, edge, face, locate, map_of, vertex
+from landmap.faces import cross, cycle, edge, face, locate, map_of, vertex
 
 TOP = os.path.dirname(os.path.dirname(os.path.abspath(__file__)))
 
@@ -27,6 +27,7 @@ MAPS = [
 NUMBERS = (-1, 0, 1, 4, 70)
 PAIRS = ((0, 0), (0, 1), (1, 0), (1, 1), (2, 0), (-1, 0), (0, -1))
 POINTS = ([0, 1, 0, 1], [4, 2, 0, 5], [3, 2, 3, 2], [3, 2, 5, 3], [-1, 3, 50, 1000], [0, 0, 0, 1], [5, 1, 5], [])
+POINT_PAIRS = tuple(one + other for one in POINTS for other in POINTS)
 
 
 class Untouchable(list):
@@ -43,22 +44,24 @@ def untouchable(lists):
     return Untouchable([Untouchable(numbers) for numbers in lists])
 
 
-def all_answers(segments, points=POINTS):
+def all_answers(segments, points=POINTS, pairs=POINT_PAIRS):
     answers = [map_of(segments)] + [call(i, segments) for call in (vertex, edge, face) for i in NUMBERS]
     answers += [cycle(*pair, segments) for pair in PAIRS]
-    return answers + [locate(point, segments) for point in points]
+    answers += [locate(point, segments) for point in points]
+    return answers + [cross(two, segments) for two in pairs]
 
 
 class HandedIn(unittest.TestCase):
     def test_is_as_it_was(self):
         for segments in MAPS:
-            before = copy.deepcopy((segments, POINTS))
+            before = copy.deepcopy((segments, POINTS, POINT_PAIRS))
             all_answers(segments)
-            self.assertEqual((segments, POINTS), before)
+            self.assertEqual((segments, POINTS, POINT_PAIRS), before)
 
     def test_is_not_changed_for_a_while_either(self):
         for segments in MAPS:
-            self.assertEqual(all_answers(untouchable(segments), untouchable(POINTS)), all_answers(segments))
+            answers = all_answers(untouchable(segments), untouchable(POINTS), untouchable(POINT_PAIRS))
+            self.assertEqual(answers, all_answers(segments))
 
 
 class Kept(unittest.TestCase):
@@ -108,6 +111,21 @@ class Kept(unittest.TestCase):
         point.append(1)
         self.assertEqual(locate(point, segments), [-4])
 
+    def test_points_and_segments_changed_between_calls_of_cross(self):
+        segments = [[0, 0, 10, 0], [10, 0, 0, 10], [0, 10, 0, 0]]
+        points = [1, 1, 1, 1, 20, 1, 20, 1]
+        self.assertEqual(cross(points, segments), [1])
+        points[4] = 2
+        points[6] = 2
+        self.assertEqual(cross(points, segments), [0])
+        points[6] = 20
+        segments[2][3] = 1
+        self.assertEqual(cross(points, segments), [0])
+        segments[2] = [1, 0, 1, 10]
+        self.assertEqual(cross(points, segments), [-5])
+        points.pop()
+        self.assertEqual(cross(points, segments), [-4])
+
     def test_changing_an_answer_changes_no_later_one(self):
         for segments in MAPS:
             before = copy.deepcopy(all_answers(segments))
@@ -145,6 +163,7 @@ class Answers(unittest.TestCase):
                     self.assertEqual(len(walk), 1 + walk[0])
             for point in ([0, 1, 0, 1], [4, 2, 0, 5], [99, 1, 99, 1]):
                 self.assertEqual(len(locate(point, segments)), 2)
+                self.assertEqual(len(cross(point + [101, 1, 7, 2], segments)), 1)
 
     def test_names_of_arguments(self):
         self.assertEqual(list(inspect.signature(map_of).parameters), ["segments"])
@@ -152,12 +171,26 @@ class Answers(unittest.TestCase):
             self.assertEqual(list(inspect.signature(call).parameters), ["i", "segments"])
         self.assertEqual(list(inspect.signature(cycle).parameters), ["f", "k", "segments"])
         self.assertEqual(list(inspect.signature(locate).parameters), ["point", "segments"])
+        self.assertEqual(list(inspect.signature(cross).parameters), ["points", "segments"])
         self.assertEqual(map_of(segments=[[0, 0, 3, 4]]), [2, 1, 1, 1])
         self.assertEqual(vertex(i=1, segments=[[0, 0, 3, 4]]), [1, 3, 1, 4, 1, 0])
         self.assertEqual(edge(i=0, segments=[[0, 0, 3, 4]]), [0, 1, 0, 0])
         self.assertEqual(face(i=0, segments=[[0, 0, 3, 4]]), [1, 0, 1])
         self.assertEqual(cycle(f=0, k=0, segments=[[0, 0, 3, 4]]), [2, 0, 1])
         self.assertEqual(locate(point=[3, 2, 2, 1], segments=[[0, 0, 3, 4]]), [1, 0])
+        self.assertEqual(cross(points=[1, 1, 1, 1, 0, 1, 5, 1], segments=[[0, 0, 3, 4]]), [0])
+
+
+class Readme(unittest.TestCase):
+    def test_examples(self):
+        with open(os.path.join(TOP, "README.md"), encoding="utf-8") as file:
+            code = file.read().split("```python\n")[1].split("```")[0]
+        names = {}
+        exec(code, names)
+        examples = [line.split("  #") for line in code.split("\n") if "  #" in line]
+        self.assertEqual(len(examples), 7)
+        for call, answer in examples:
+            self.assertEqual(repr(eval(call, names)), answer.strip(), call)
 
 
 class World(unittest.TestCase):
@@ -180,6 +213,7 @@ class World(unittest.TestCase):
             "landmap.faces.face(0, [[0, 0, 2, 1], [0, 1, 1, 0]])\n"
             "landmap.faces.cycle(0, 0, [[0, 0, 2, 1], [0, 1, 1, 0]])\n"
             "landmap.faces.locate([2, 3, 1, 3], [[0, 0, 2, 1], [0, 1, 1, 0]])\n"
+            "landmap.faces.cross([2, 1, 5, 3, 0, 1, 9, 1], [[0, 0, 2, 1], [0, 1, 1, 0]])\n"
             "print(sorted(set(sys.modules) - before))\n"
         )
         ran = subprocess.run([sys.executable, "-c", script], cwd=TOP, capture_output=True, text=True)

@@ -28,10 +28,15 @@ NODES_NOT_USED = (
     ast.With, ast.Match, ast.Delete, ast.Global, ast.Nonlocal, ast.Assert, ast.Yield, ast.YieldFrom,
     ast.AsyncFunctionDef, ast.AsyncFor, ast.AsyncWith, ast.Await, ast.SetComp, ast.DictComp, ast.GeneratorExp,
     ast.NamedExpr, ast.Starred, ast.Div, ast.MatMult, ast.AnnAssign, ast.Set,
+    # Allowed in part, but the package does without them.
+    ast.Try, ast.Raise, ast.JoinedStr,
 )
 WALKED_AT_ONCE = {"zip", "enumerate", "reversed", "range"}
 WALKERS = {"list", "tuple", "dict", "sorted", "sum", "any", "all", "enumerate", "zip", "min", "max"}
 SET_USERS = {"sorted", "len"}
+KEYWORDS = {"sorted": {"key", "reverse"}, "min": {"key", "default"}, "max": {"key", "default"}}
+CHANGERS = {"append", "clear", "extend", "insert", "pop", "remove", "reverse", "setdefault", "update"}
+VALUES_OF_PYTHON = ("", 0, [], (), {}, set(), b"")
 
 
 def package_files():
@@ -116,6 +121,36 @@ class Nodes(LanguageCase):
                 self.assertIsNone(node.args.vararg)
                 self.assertIsNone(node.args.kwarg)
                 self.assertEqual(node.args.kwonlyargs, [])
+                self.assertIsNone(node.returns)
+                for arg in node.args.args:
+                    self.assertIsNone(arg.annotation)
+                for default in node.args.defaults:
+                    ast.literal_eval(default)
+
+    def test_lambdas_of_the_same_parameters_stand_on_lines_of_their_own(self):
+        for text in self.each_file():
+            found = [node for node in ast.walk(ast.parse(text)) if isinstance(node, ast.Lambda)]
+            places = [(node.lineno, ast.unparse(node.args)) for node in found]
+            self.assertEqual(len(places), len(set(places)))
+
+    def test_exponents_are_written(self):
+        for node in self.each_node():
+            if isinstance(node, ast.BinOp) and isinstance(node.op, ast.Pow):
+                self.assertIsInstance(node.right, ast.Constant)
+                self.assertIn(node.right.value, range(65))
+
+    def test_no_percent_sign_and_no_escape_in_texts(self):
+        for node in self.each_node():
+            if isinstance(node, ast.Constant) and isinstance(node.value, str):
+                self.assertNotIn("%", node.value)
+        for text in self.each_file():
+            self.assertNotIn("\\", text)
+
+    def test_keywords_of_pythons_own(self):
+        for node in self.each_node():
+            if isinstance(node, ast.Call) and node.keywords:
+                self.assertIsInstance(node.func, ast.Name)
+                self.assertLessEqual({word.arg for word in node.keywords}, KEYWORDS[node.func.id])
 
     def test_classes(self):
         for node in self.each_node():
@@ -153,6 +188,31 @@ class Names(LanguageCase):
                 self.assertNotIn(node.attr, NOT_USED)
                 self.assertFalse(node.attr.startswith("_"))
 
+    def test_values_of_objects_are_called_like_nothing_of_pythons_own(self):
+        taken = set().union(*[dir(value) for value in VALUES_OF_PYTHON])
+        for node in self.each_node():
+            if isinstance(node, ast.Attribute) and isinstance(node.ctx, ast.Store):
+                self.assertNotIn(node.attr, taken)
+
+    def test_nothing_within_a_function_is_called_like_a_class(self):
+        for text in self.each_file():
+            tree = ast.parse(text)
+            classes = {node.name for node in ast.walk(tree) if isinstance(node, ast.ClassDef)}
+            for node in ast.walk(tree):
+                if isinstance(node, ast.arg):
+                    self.assertNotIn(node.arg, classes)
+                if isinstance(node, ast.Name) and isinstance(node.ctx, ast.Store):
+                    self.assertNotIn(node.id, classes)
+
+    def test_classes_are_called_alone(self):
+        for text in self.each_file():
+            tree = ast.parse(text)
+            classes = {node.name for node in ast.walk(tree) if isinstance(node, ast.ClassDef)}
+            called = [node.func for node in ast.walk(tree) if isinstance(node, ast.Call)]
+            for node in ast.walk(tree):
+                if isinstance(node, ast.Name) and node.id in classes:
+                    self.assertTrue(any(node is place for place in called), node.lineno)
+
     def test_is_stands_beside_none_true_and_false_alone(self):
         for node in self.each_node():
             if isinstance(node, ast.Compare) and any(isinstance(op, (ast.Is, ast.IsNot)) for op in node.ops):
@@ -173,6 +233,17 @@ class Walks(LanguageCase):
             allowed += [arg for call in self.calls_of(tree, WALKERS) for arg in call.args]
             for call in self.calls_of(tree, WALKED_AT_ONCE):
                 self.assertTrue(any(call is place for place in allowed), ast.unparse(call))
+
+    def test_what_a_loop_walks_is_not_changed_in_it(self):
+        for loop in self.each_node():
+            if isinstance(loop, ast.For):
+                walked = {node.id for node in ast.walk(loop.iter) if isinstance(node, ast.Name)}
+                for node in ast.walk(ast.Module(loop.body, [])):
+                    if isinstance(node, ast.Call) and isinstance(node.func, ast.Attribute):
+                        if node.func.attr in CHANGERS:
+                            self.assertNotIn(ast.unparse(node.func.value), walked)
+                    if isinstance(node, ast.Subscript) and isinstance(node.ctx, ast.Store):
+                        self.assertNotIn(ast.unparse(node.value), walked)
 
     def test_sets_are_neither_kept_nor_walked(self):
         for text in self.each_file():

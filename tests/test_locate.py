@@ -322,6 +322,20 @@ class HowPointsAreTold(LocateCase):
         self.in_face(box(0, 0, 1, 1), 0, 1, 1000, 1001, 1000)
 
 
+class LeastLengths(LocateCase):
+    """Points a step of 1 beside edges of a step of 1."""
+
+    def test_beside_the_least_triangles(self):
+        for triangle in (ring((0, 0), (1, 0), (0, 1)), ring((0, 0), (1, 1), (0, 1)), ring((0, 0), (1, 0), (1, 1))):
+            self.whole_in_face(triangle, 0, (-1, 0), (-1, 1), (2, 0), (2, 1), (0, -1), (1, -1), (0, 2), (1, 2))
+
+    def test_amid_a_box_told_in_steps(self):
+        level = [[across, up, across + 1, up] for across in (0, 1) for up in (0, 2)]
+        upright = [[across, up, across, up + 1] for across in (0, 2) for up in (0, 1)]
+        self.whole_in_face(level + upright, 1, (1, 1))
+        self.whole_in_face(level + upright, 0, (-1, 1), (3, 1), (1, -1), (1, 3))
+
+
 class TenSegments(LocateCase):
     def test_grid(self):
         flat = [[-5, 10 * k, 45, 10 * k] for k in range(5)]

@@ -5,7 +5,7 @@ from fractions import Fraction
 
 import reckoning
 import slabs
-from landmap.faces import cycle, edge, face, locate, map_of, vertex
+from landmap.faces import cross, cycle, edge, face, locate, map_of, vertex
 from shapes import all_cycles_of, all_edges_of, all_faces_of, ring
 
 
@@ -34,6 +34,16 @@ def drawn_nest(source, least):
     segments = sum([ring(*triangle) for triangle in triangles], [])
     segments.append([*drawn_place(source, triangles[-1], least), *drawn_place(source, triangles[-1], least)])
     return [segment for segment in segments if segment[:2] != segment[2:]]
+
+
+def drawn_lattice(source):
+    """Ten long segments, level and upright, that make many faces beside one another."""
+    segments = []
+    for k in range(10):
+        start, end = source.randint(-6, -3), source.randint(3, 6)
+        aside = source.randint(-5, 5)
+        segments.append([start, aside, end, aside] if k % 2 else [aside, end, aside, start])
+    return segments
 
 
 def told(source, across, up):
@@ -88,8 +98,14 @@ class AgainstReckoning(unittest.TestCase):
         self.points_agree(segments, plan)
 
     def points_agree(self, segments, plan):
-        for point in drawn_points(random.Random(repr(segments)), plan):
+        source = random.Random(repr(segments))
+        points = drawn_points(source, plan)
+        for point in points:
             self.assertEqual(locate(point, segments), plan.locate_answer(point), (point, segments))
+        in_faces = [point for point in points if plan.locate_answer(point)[0] == 2]
+        pairs = [source.choices(in_faces, k=2) for _ in range(10)] + [source.choices(points, k=2) for _ in range(4)]
+        for one, other in pairs:
+            self.assertEqual(cross(one + other, segments), plan.cross_answer(one, other), (one, other, segments))
 
     def many(self, seed, maps, reach, counts):
         source = random.Random(seed)
@@ -108,6 +124,11 @@ class AgainstReckoning(unittest.TestCase):
 
     def test_wide_maps_of_ten(self):
         self.many(5, 4, 100, [10])
+
+    def test_lattices(self):
+        source = random.Random(8)
+        for _ in range(15):
+            self.agrees(drawn_lattice(source))
 
     def test_nests(self):
         source = random.Random(6)

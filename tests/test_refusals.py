@@ -1,11 +1,12 @@
 """What is refused, with which number, and what is just not refused."""
 import unittest
 
-from landmap.faces import cycle, edge, face, locate, map_of, vertex
+from landmap.faces import cross, cycle, edge, face, locate, map_of, vertex
 
 LARGEST = 4294967295
 GOOD = [0, 0, 3, 4]
 GOOD_POINT = [1, 2, 3, 4]
+FAR_POINT = [500, 1, 501, 1]
 WRONG_POINTS = ([], [0, 1, 0], [0, 1, 0, 1, 0], [0, 0, 0, 1], [0, 1, 0, 1001], [100001, 1, 0, 1], [LARGEST] * 12)
 
 CROSSING = [[0, 0, 10, 10], [0, 10, 10, 0]]
@@ -23,6 +24,8 @@ class RefusalCase(unittest.TestCase):
             self.assertEqual(cycle(*pair, segments), [number])
         for point in (GOOD_POINT, *WRONG_POINTS):
             self.assertEqual(locate(point, segments), [number])
+            self.assertEqual(cross(GOOD_POINT + point[:8], segments), [number])
+            self.assertEqual(cross(point[:8] + GOOD_POINT, segments), [number])
 
     def all_take(self, segments):
         self.assertEqual(len(map_of(segments)), 4)
@@ -31,6 +34,7 @@ class RefusalCase(unittest.TestCase):
         self.assertEqual(len(face(0, segments)), 3)
         self.assertGreater(cycle(0, 0, segments)[0], 1)
         self.assertEqual(len(locate(GOOD_POINT, segments)), 2)
+        self.assertGreaterEqual(cross([199, 2, 199, 3] + FAR_POINT, segments)[0], 0)
 
 
 class TooMany(RefusalCase):
